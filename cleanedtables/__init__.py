@@ -1,0 +1,1 @@
+"""Cleanedtables: sources cleaned into tables, each row led back."""
