@@ -1,0 +1,103 @@
+"""The interface as the document lists it, and the plain ones of the language's rules."""
+
+import ast
+import importlib
+import inspect
+import pathlib
+import unittest
+
+ROOT = pathlib.Path(__file__).resolve().parent.parent
+PACKAGE = ROOT / "cleanedtables"
+
+INTERFACE = {
+    "worths": {"is_worth": ["thing"], "rank": ["worth"]},
+    "forms": {"is_form": ["thing"], "read_as": ["form", "text"], "written": ["form", "number"]},
+    "shapes": {"is_shape": ["thing"]},
+    "lines": {"lines_of": ["shape", "text"], "cell_worth": ["text"]},
+    "cells": {
+        "put_cell": ["shape", "text", "number", "column", "worth"],
+        "add_row": ["shape", "text", "worths"],
+    },
+    "orders": {"orders_of": ["program", "table"], "order_at": ["program", "table", "which"]},
+}
+
+
+def trees():
+    """Each file of the package with its text and its tree."""
+    for path in sorted(PACKAGE.rglob("*.py")):
+        text = path.read_text(encoding="utf-8")
+        yield path, text, ast.parse(text)
+
+
+class Interface(unittest.TestCase):
+
+    def test_each_function_stands_in_its_file(self):
+        for module, functions in INTERFACE.items():
+            tree = ast.parse((PACKAGE / f"{module}.py").read_text(encoding="utf-8"))
+            defined = {node.name for node in tree.body if isinstance(node, ast.FunctionDef)}
+            self.assertLessEqual(set(functions), defined)
+
+    def test_each_function_takes_what_is_told(self):
+        for module, functions in INTERFACE.items():
+            told = importlib.import_module(f"cleanedtables.{module}")
+            for name, arguments in functions.items():
+                taken = inspect.signature(getattr(told, name)).parameters.values()
+                self.assertEqual([one.name for one in taken], arguments)
+                for one in taken:
+                    self.assertIs(one.kind, inspect.Parameter.POSITIONAL_OR_KEYWORD)
+                    self.assertIs(one.default, inspect.Parameter.empty)
+
+
+class Language(unittest.TestCase):
+
+    def test_the_folder_holds_files_of_python_alone(self):
+        held = [path for path in PACKAGE.iterdir() if path.name != "__pycache__"]
+        self.assertIn(PACKAGE / "__init__.py", held)
+        for path in held:
+            self.assertRegex(path.name, r"\A[a-z_][a-z0-9_]*\.py\Z")
+
+    def test_sizes_and_characters(self):
+        for path, text, tree in trees():
+            rows = text.split("\n")
+            self.assertLessEqual(len(rows), 399, path)
+            self.assertLessEqual(max(map(len, rows)), 120, path)
+            self.assertRegex(text, r"\A[ -~\n]*\Z", path)
+            for node in ast.walk(tree):
+                if isinstance(node, ast.FunctionDef):
+                    self.assertLessEqual(node.end_lineno - node.lineno + 1, 40, node.name)
+
+    def test_imports_come_from_the_package_and_from_the_file_that_defines(self):
+        for path, _, tree in trees():
+            for node in ast.walk(tree):
+                self.assertNotIsInstance(node, ast.Import, path)
+                if isinstance(node, ast.ImportFrom):
+                    self.assertTrue(node.module.startswith("cleanedtables."), path)
+                    self.assertIn(node, tree.body)
+                    source = ROOT / (node.module.replace(".", "/") + ".py")
+                    bound = ast.parse(source.read_text(encoding="utf-8")).body
+                    names = [one.name for one in bound if hasattr(one, "name")]
+                    self.assertLessEqual({alias.name for alias in node.names}, set(names))
+
+    def test_modules_hold_functions_classes_and_plain_values_alone(self):
+        for path, _, tree in trees():
+            for node in tree.body:
+                if isinstance(node, ast.Assign):
+                    ast.literal_eval(node.value)
+                    continue
+                if isinstance(node, ast.Expr):
+                    self.assertIs(node, tree.body[0], path)
+                    continue
+                self.assertIsInstance(node, (ast.FunctionDef, ast.ClassDef, ast.ImportFrom), path)
+
+    def test_what_the_language_leaves_out(self):
+        barred = (ast.Global, ast.AsyncFunctionDef, ast.Await, ast.Div, ast.Pow, ast.GeneratorExp)
+        for path, _, tree in trees():
+            for node in ast.walk(tree):
+                self.assertNotIsInstance(node, barred, path)
+                if isinstance(node, ast.Constant):
+                    self.assertNotIsInstance(node.value, float, path)
+                    self.assertFalse(isinstance(node.value, str) and chr(37) in node.value, path)
+
+
+if __name__ == "__main__":
+    unittest.main()
