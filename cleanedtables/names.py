@@ -10,9 +10,19 @@ def is_name(thing):
     return thing.isascii() and thing.isalpha() and thing.islower()
 
 
-def are_names(thing, most):
-    """Tell whether a thing, of any kind, is a tuple of 1 to most unlike NAMEs."""
-    if not isinstance(thing, tuple) or not 1 <= len(thing) <= most:
+def are_names(thing, least, most):
+    """Tell whether a thing, of any kind, is a tuple of least to most NAMEs."""
+    if not isinstance(thing, tuple) or not least <= len(thing) <= most:
         return False
+    return all([is_name(name) for name in thing])
+
+
+def are_unlike_names(thing, least, most):
+    """Tell whether a thing, of any kind, is a tuple of least to most unlike NAMEs."""
     # The names are looked at first: what is no name may be of no use to a set.
-    return all([is_name(name) for name in thing]) and len(set(thing)) == len(thing)
+    return are_names(thing, least, most) and are_unlike(thing)
+
+
+def are_unlike(texts):
+    """Tell whether no two of these texts are alike."""
+    return len(set(texts)) == len(texts)

@@ -1,6 +1,6 @@
 """Shapes: how the rows of a source are parted into cells."""
 
-from cleanedtables.names import are_names
+from cleanedtables.names import are_unlike_names
 from cleanedtables.worths import is_whole
 
 SIGNS = (",", ";", "|", ":")
@@ -14,7 +14,7 @@ def is_shape(thing):
     """Tell whether a thing, of any kind, is a shape."""
     if not isinstance(thing, tuple) or len(thing) == 0 or not isinstance(thing[0], str):
         return False
-    if not are_names(thing[-1], MOST_COLUMNS):
+    if not are_unlike_names(thing[-1], 1, MOST_COLUMNS):
         return False
     if thing[0] == "signs":
         return len(thing) == 4 and is_one_of(thing[1], SIGNS) and is_one_of(thing[2], QUOTES)

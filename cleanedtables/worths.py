@@ -13,6 +13,16 @@ def is_worth(thing):
     return thing is None or is_whole(thing)
 
 
+def is_told(thing):
+    """Tell whether a thing, of any kind, is a worth and not None."""
+    return thing is not None and is_worth(thing)
+
+
+def kind_of(worth):
+    """Tell the kind of a worth that is not None."""
+    return "text" if isinstance(worth, str) else "number"
+
+
 def rank(worth):
     """Tell what the worths of one column are sorted by: None ahead of all."""
     if worth is None:

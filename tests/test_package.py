@@ -19,6 +19,10 @@ INTERFACE = {
         "add_row": ["shape", "text", "worths"],
     },
     "orders": {"orders_of": ["program", "table"], "order_at": ["program", "table", "which"]},
+    "programs": {"look_program": ["thing"], "columns_of": ["program", "table"]},
+    "touches": {"touched": ["step"], "clashes": ["program"]},
+    "steps": {"done": ["step", "worths"]},
+    "running": {"run": ["program", "texts", "*orders"]},
 }
 
 
@@ -27,6 +31,15 @@ def trees():
     for path in sorted(PACKAGE.rglob("*.py")):
         text = path.read_text(encoding="utf-8")
         yield path, text, ast.parse(text)
+
+
+def is_plain(node, functions):
+    """Whether what is assigned to a name is a plain value, or of these and functions."""
+    if isinstance(node, ast.Dict):
+        return all(is_plain(part, functions) for part in [*node.keys, *node.values])
+    if isinstance(node, (ast.Tuple, ast.List)):
+        return all(is_plain(part, functions) and not isinstance(part, (ast.Dict, ast.List)) for part in node.elts)
+    return isinstance(node, ast.Constant) or isinstance(node, ast.Name) and node.id in functions
 
 
 class Interface(unittest.TestCase):
@@ -39,13 +52,17 @@ class Interface(unittest.TestCase):
 
     def test_each_function_takes_what_is_told(self):
         for module, functions in INTERFACE.items():
-            told = importlib.import_module(f"cleanedtables.{module}")
+            imported = importlib.import_module(f"cleanedtables.{module}")
             for name, arguments in functions.items():
-                taken = inspect.signature(getattr(told, name)).parameters.values()
-                self.assertEqual([one.name for one in taken], arguments)
-                for one in taken:
-                    self.assertIs(one.kind, inspect.Parameter.POSITIONAL_OR_KEYWORD)
-                    self.assertIs(one.default, inspect.Parameter.empty)
+                taken = inspect.signature(getattr(imported, name)).parameters.values()
+                self.assertEqual([one.name for one in taken], [told.lstrip("*") for told in arguments])
+                for one, told in zip(taken, arguments):
+                    if told.startswith("*"):
+                        self.assertIs(one.kind, inspect.Parameter.KEYWORD_ONLY)
+                        self.assertIsNone(one.default)
+                    else:
+                        self.assertIs(one.kind, inspect.Parameter.POSITIONAL_OR_KEYWORD)
+                        self.assertIs(one.default, inspect.Parameter.empty)
 
 
 class Language(unittest.TestCase):
@@ -80,10 +97,15 @@ class Language(unittest.TestCase):
 
     def test_modules_hold_functions_classes_and_plain_values_alone(self):
         for path, _, tree in trees():
+            above = []
             for node in tree.body:
                 if isinstance(node, ast.Assign):
-                    ast.literal_eval(node.value)
+                    self.assertEqual(len(node.targets), 1, path)
+                    self.assertIsInstance(node.targets[0], ast.Name, path)
+                    self.assertTrue(is_plain(node.value, above), path)
                     continue
+                if isinstance(node, ast.FunctionDef):
+                    above.append(node.name)
                 if isinstance(node, ast.Expr):
                     self.assertIs(node, tree.body[0], path)
                     continue
