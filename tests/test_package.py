@@ -23,6 +23,16 @@ INTERFACE = {
     "touches": {"touched": ["step"], "clashes": ["program"]},
     "steps": {"done": ["step", "worths"]},
     "running": {"run": ["program", "texts", "*orders"]},
+    "asking": {"answer": ["program", "texts", "thing"], "looked": ["program", "texts", "things"]},
+    "traces": {
+        "trace": ["program", "texts", "thing"],
+        "shows_trace": ["program", "texts", "thing", "made"],
+    },
+    "lots": {
+        "lot_of": ["program", "texts", "table", "row"],
+        "sources_of": ["program", "lot"],
+        "run_only": ["program", "texts", "only"],
+    },
 }
 
 
