@@ -1,7 +1,7 @@
 """Askers: they answer things one after the other, each once."""
 
 from cleanedtables.rules import rule_of
-from cleanedtables.sames import is_one_same, is_same
+from cleanedtables.sames import is_one_same
 from cleanedtables.worths import is_whole, is_worth
 
 
