@@ -10,7 +10,13 @@ def put_cell(shape, text, number, column, worth):
     lines = lines_of(shape, text)
     if not is_whole(number) or not 0 <= number < len(lines):
         raise NoRow(number)
-    begin, end, cells, reason = lines[number]
+    return put_in_line(shape, text, lines[number], (number, column), worth)
+
+
+def put_in_line(shape, text, line, cell, worth):
+    """Tell the text in which a cell, (number, column), of a line of it tells a worth."""
+    number, column = cell
+    begin, end, cells, reason = line
     if reason != "" or not has_cell(shape, text[begin:end], column):
         raise NoCell(number, column)
     place = shape[-1].index(column)

@@ -6,15 +6,14 @@ from cleanedtables.lines import cell_worth, lines_of
 def held_rows(program, texts):
     """Tell the rows of all sources: by the source a dict of (worths, reason) by numbers."""
     of_source = dict(texts)
-    return {source: numbered_rows(shape, of_source[source]) for source, shape in program[0]}
+    return {source: dict(enumerate(rows_held(shape, of_source[source]))) for source, shape in program[0]}
 
 
-def numbered_rows(shape, text):
-    """Tell the rows of a text by their numbers."""
-    rows = {}
-    for number, line in enumerate(lines_of(shape, text)):
-        _, _, cells, reason = line
-        rows[number] = (tuple([cell_worth(cell) for _, _, cell in cells]), reason)
+def rows_held(shape, text):
+    """Tell (worths, reason) of each row of a text, in order."""
+    rows = []
+    for _, _, cells, reason in lines_of(shape, text):
+        rows.append((tuple([cell_worth(told) for _, _, told in cells]), reason))
     return rows
 
 

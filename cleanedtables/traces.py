@@ -50,7 +50,7 @@ class Holder:
     def __init__(self, plan, held, made):
         self.plan = plan
         self.held = held
-        self.made = made
+        self.shown = made
         # The places of the things that have been held, in the order of their answers.
         self.places = {}
 
@@ -70,9 +70,9 @@ class Holder:
 
     def row_of(self, thing, place):
         """Tell the numbers and the answer of a thing's row at a place, of any kind."""
-        if not is_whole(place) or not 0 <= place < len(self.made):
+        if not is_whole(place) or not 0 <= place < len(self.shown):
             raise Unshown()
-        row = self.made[place]
+        row = self.shown[place]
         if not isinstance(row, tuple) or len(row) != 3 or not isinstance(row[1], tuple):
             raise Unshown()
         if not is_same(thing, row[0]):
@@ -89,4 +89,4 @@ class Holder:
             return self.hold(thing, place)
         if not is_same(self.places[thing], place):
             raise Unshown()
-        return self.made[place][2]
+        return self.shown[place][2]

@@ -24,9 +24,14 @@ def must_be_ahead(table):
 class Tables:
     """All tables of a program by texts: rows, what each is made of, worths, marks, leans, what is lost."""
 
-    def __init__(self, program, texts):
+    def __init__(self, program, texts, numbers=None):
         self.program = program
-        self.lines = {name: lines_of(shape, dict(texts)[name]) for name, shape in program[0]}
+        # lines[source][number], by the rows' own numbers where these are told.
+        self.lines = {}
+        for name, shape in program[0]:
+            lines = lines_of(shape, dict(texts)[name])
+            own = range(len(lines)) if numbers is None else numbers[name]
+            self.lines[name] = dict(zip(own, lines, strict=True))
         self.rows = {}
         self.parts = {}
         self.lost = {}
@@ -62,7 +67,7 @@ class Tables:
 
     def of_made(self, name, source):
         made = []
-        for number, (_, _, cells, reason) in enumerate(self.lines[source]):
+        for number, (_, _, cells, reason) in self.lines[source].items():
             if reason:
                 self.lost[name].append((source, (source, number), reason))
             else:

@@ -6,9 +6,9 @@ from tests.oracle import Tables
 class Things:
     """All things of a program and texts."""
 
-    def __init__(self, program, texts):
+    def __init__(self, program, texts, numbers=None):
         self.program = program
-        self.tables = Tables(program, texts)
+        self.tables = Tables(program, texts, numbers)
         self.table = {table[0]: table for table in program[1]}
 
     def all_of(self, name):
@@ -26,7 +26,7 @@ class Things:
         things = []
         for source, lines in self.tables.lines.items():
             things.append(("source", source))
-            things += [("line", source, number) for number in range(len(lines))]
+            things += [("line", source, number) for number in lines]
         for name, origin, steps, _ in self.program[1]:
             things.append(("rows", name))
             for row in self.tables.rows[name]:
@@ -59,7 +59,7 @@ class Things:
     def answer_of_source(self, thing):
         lines = self.tables.lines[thing[1]]
         if thing[0] == "source":
-            return tuple(number for number, line in enumerate(lines) if not line[3])
+            return tuple(number for number, line in lines.items() if not line[3])
         if lines[thing[2]][3]:
             return None
         return tuple(cell.strip() or None for _, _, cell in lines[thing[2]][2])

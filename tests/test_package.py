@@ -33,6 +33,35 @@ INTERFACE = {
         "sources_of": ["program", "lot"],
         "run_only": ["program", "texts", "only"],
     },
+    "ledgers": {"ledger": ["program", "texts"], "ends_of": ["program"]},
+    "mends": {
+        "mend": ["program", "texts", "table", "offers"],
+        "shows_mend": ["program", "texts", "table", "offers", "thing"],
+        "put_offers": ["program", "texts", "offers", "choice"],
+    },
+    "showing": {"show_program": ["program"]},
+}
+CLASSES = {
+    "benches": {
+        "Bench": {
+            "__init__": ["self", "program", "texts"],
+            "put": ["self", "source", "number", "column", "worth"],
+            "add": ["self", "source", "worths"],
+            "drop": ["self", "source", "number"],
+            "text_of": ["self", "source"],
+            "answer": ["self", "thing"],
+            "rows_of": ["self", "name"],
+            "made": ["self"],
+            "undo": ["self"],
+            "redo": ["self"],
+            "together": ["self", "deeds", "*look"],
+            "log": ["self"],
+            "is_open": ["self"],
+            "__eq__": ["self", "other"],
+            "__len__": ["self"],
+            "__str__": ["self"],
+        },
+    },
 }
 
 
@@ -60,19 +89,34 @@ class Interface(unittest.TestCase):
             defined = {node.name for node in tree.body if isinstance(node, ast.FunctionDef)}
             self.assertLessEqual(set(functions), defined)
 
+    def test_each_method_stands_in_its_class(self):
+        for module, classes in CLASSES.items():
+            tree = ast.parse((PACKAGE / f"{module}.py").read_text(encoding="utf-8"))
+            bodies = {node.name: node.body for node in tree.body if isinstance(node, ast.ClassDef)}
+            for name, methods in classes.items():
+                defined = {node.name for node in bodies[name] if isinstance(node, ast.FunctionDef)}
+                self.assertLessEqual(set(methods), defined)
+
     def test_each_function_takes_what_is_told(self):
         for module, functions in INTERFACE.items():
-            imported = importlib.import_module(f"cleanedtables.{module}")
-            for name, arguments in functions.items():
-                taken = inspect.signature(getattr(imported, name)).parameters.values()
-                self.assertEqual([one.name for one in taken], [told.lstrip("*") for told in arguments])
-                for one, told in zip(taken, arguments):
-                    if told.startswith("*"):
-                        self.assertIs(one.kind, inspect.Parameter.KEYWORD_ONLY)
-                        self.assertIsNone(one.default)
-                    else:
-                        self.assertIs(one.kind, inspect.Parameter.POSITIONAL_OR_KEYWORD)
-                        self.assertIs(one.default, inspect.Parameter.empty)
+            self.takes(importlib.import_module(f"cleanedtables.{module}"), functions)
+
+    def test_each_method_takes_what_is_told(self):
+        for module, classes in CLASSES.items():
+            for name, methods in classes.items():
+                self.takes(getattr(importlib.import_module(f"cleanedtables.{module}"), name), methods)
+
+    def takes(self, holder, functions):
+        for name, arguments in functions.items():
+            taken = inspect.signature(getattr(holder, name)).parameters.values()
+            self.assertEqual([one.name for one in taken], [told.lstrip("*") for told in arguments])
+            for one, told in zip(taken, arguments):
+                if told.startswith("*"):
+                    self.assertIs(one.kind, inspect.Parameter.KEYWORD_ONLY)
+                    self.assertIsNone(one.default)
+                else:
+                    self.assertIs(one.kind, inspect.Parameter.POSITIONAL_OR_KEYWORD)
+                    self.assertIs(one.default, inspect.Parameter.empty)
 
 
 class Language(unittest.TestCase):
@@ -103,6 +147,7 @@ class Language(unittest.TestCase):
                     source = ROOT / (node.module.replace(".", "/") + ".py")
                     bound = ast.parse(source.read_text(encoding="utf-8")).body
                     names = [one.name for one in bound if hasattr(one, "name")]
+                    names += [one.targets[0].id for one in bound if isinstance(one, ast.Assign)]
                     self.assertLessEqual({alias.name for alias in node.names}, set(names))
 
     def test_modules_hold_functions_classes_and_plain_values_alone(self):
