@@ -17,6 +17,11 @@ def lot_of(program, texts, table, row):
     made = made_tables(plan, held_rows(program, texts), None)
     if not is_one_same([one.called for one in made[table].rows], row):
         raise NoRow(row)
+    return lot_held(plan, made, table, row)
+
+
+def lot_held(plan, made, table, row):
+    """Tell the (table, row) of the least lot that has a row of the tables made."""
     lot = closed((table, row), links_of(plan, made), joins_of(plan, made))
     return tuple([here for here in all_rows(made) if here in lot])
 

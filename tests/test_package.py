@@ -40,6 +40,18 @@ INTERFACE = {
         "put_offers": ["program", "texts", "offers", "choice"],
     },
     "showing": {"show_program": ["program"]},
+    "reading": {"read_program": ["text"]},
+    "spans": {
+        "spread": ["program", "spans"],
+        "texts_at": ["program", "spans", "which"],
+        "alike": ["one", "other", "tables", "spans"],
+    },
+    "byrows": {
+        "goes_by_rows": ["program"],
+        "onward": ["program", "state", "worths"],
+        "alike_by_rows": ["one", "other", "worths"],
+        "shows_alike": ["one", "other", "worths", "thing"],
+    },
 }
 CLASSES = {
     "benches": {
@@ -62,6 +74,7 @@ CLASSES = {
             "__str__": ["self"],
         },
     },
+    "desk": {"Desk": {"__init__": ["self", "text"], "say": ["self", "line"]}},
 }
 
 
