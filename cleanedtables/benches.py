@@ -10,6 +10,12 @@ from cleanedtables.stocks import after_deed, first_stock, held_stock
 from cleanedtables.touches import refuse_clashes
 
 
+def source_part(source, text):
+    """Tell how a source and its text are shown."""
+    end = "" if text == "" or text.endswith("\n") else "\n"
+    return f"= {source}\n{text}{end}"
+
+
 class Bench:
     """A program's sources as deeds leave them, and the answers of things by them."""
 
@@ -157,10 +163,4 @@ class Bench:
         return len([number for _, numbers, _ in list(self.stock.values()) for number in numbers])
 
     def __str__(self):
-        parts = []
-        for source, _ in self.program[0]:
-            text, _, _ = self.stock[source]
-            parts.extend(["= ", source, "\n", text])
-            if text != "" and not text.endswith("\n"):
-                parts.append("\n")
-        return "".join(parts)
+        return "".join([source_part(source, self.stock[source][0]) for source, _ in self.program[0]])

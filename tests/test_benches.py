@@ -216,7 +216,8 @@ class RefusedDeeds(unittest.TestCase):
         told.made()
         told.undo()
         other = bench()
-        for deed in [("put", "s", 9, "a", "x"), ("put", "s", 0, "z", "x"), ("drop", "p", 9), ("add", "p", ("abc", "a"))]:
+        for deed in [("put", "s", 9, "a", "x"), ("put", "s", 0, "z", "x"), ("drop", "p", 9),
+                     ("add", "p", ("abc", "a"))]:
             self.assertRaises((NoRow, NoCell, NoFit), getattr(told, deed[0]), *deed[1:])
         self.assertEqual(told, other)
         # What undo took back can still be done again.

@@ -49,7 +49,8 @@ class GoesByRows(unittest.TestCase):
 
     def test_not_with_more_tables_than_one(self):
         one = ("t", ("of", "s"), (), ())
-        for other in [("u", ("of", "s"), (), ()), ("u", ("of", "q"), (), ()), ("u", ("long", "t", ("a",), "n", "v"), (), ()),
+        for other in [("u", ("of", "s"), (), ()), ("u", ("of", "q"), (), ()),
+                      ("u", ("long", "t", ("a",), "n", "v"), (), ()),
                       ("u", ("group", "t", (), (("n", "count", None),)), (), ()),
                       ("u", ("of", "s"), (("l", "look", "a", "t", "a", "b", "n"),), ())]:
             self.assertIsNone(look_program((SOURCES, (one, other))))
@@ -213,7 +214,8 @@ class AlikeByRows(unittest.TestCase):
         self.told(one, other, ("parted", (("x", None),)))
         # Both mark the row; what it has is not told.
         self.told(of(("g", "given", "a"), ("p", "spell", "b", (("1", "2"),))),
-                  of(("g", "given", "a"), ("p", "spell", "b", (("1", "3"),))), ("alike", (((), ()),)), ((None,), ("1",)))
+                  of(("g", "given", "a"), ("p", "spell", "b", (("1", "3"),))), ("alike", (((), ()),)),
+                  ((None,), ("1",)))
 
     def test_against_run_of_all_short_texts(self):
         counts = {"alike": 0, "parted": 0}
@@ -300,6 +302,11 @@ class ShowsAlike(unittest.TestCase):
         for one in [(), (None,), (None, None, None)]:
             for other in [(), (None,), (None, None), (None, None, None)]:
                 self.assertIs(self.shows(((one, other),) + self.PAIRS[1:]), False)
+        # They would lead to themselves alone.
+        for pair in [((None, None), (None, None)), ((None,), (None, None)), ((None, None), (None,))]:
+            self.assertIs(self.shows((((None,), (None,)), pair), FILL, FILL, ((None,), ("1",))), False)
+        for pair in [((), ()), ((None,), ()), ((), (None,))]:
+            self.assertIs(self.shows((pair, ((None,), (None,))), FILL, FILL, ((None,), ("1",))), False)
         self.assertIs(self.shows(((None, None),) + self.PAIRS[1:]), False)
         self.assertIs(self.shows((self.PAIRS[0] + ((None, None),),) + self.PAIRS[1:]), False)
 
@@ -355,6 +362,8 @@ class ShowsAlike(unittest.TestCase):
                 self.assertIs(self.shows(thing, one, other), False)
         clean = of(("z", "put", "a", "x"), ("b", "given", "a"), behinds=(("z", "b"),))
         self.assertIs(self.shows((((), ()),), clean, clean), True)
+        self.assertIs(self.shows((((), ()),), clean, clash), False)
+        self.assertIs(self.shows((((), ()),), clash, clean), False)
 
     def test_what_is_handed_in_stays(self):
         thing = [list(pair) for pair in self.PAIRS]

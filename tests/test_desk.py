@@ -56,7 +56,8 @@ class Says(unittest.TestCase):
         self.assertRaises(NoDeed, desk().say, "undo")
 
     def test_table(self):
-        told = desk('add s "x" "1"', 'add s - "1"', 'add s "y" "2 3"', 'add s "x y" "q"""', 'add s "z" -', 'add s "x" "7"')
+        told = desk('add s "x" "1"', 'add s - "1"', 'add s "y" "2 3"', 'add s "x y" "q"""', 'add s "z" -',
+                    'add s "x" "7"')
         self.says(told, "table t", '"x" "1" / "y" "2 3" / "x y" "q""" / "z" -', "marked t", "given / among",
                   "table gr", '"x" 1 / "x y" 1 / "y" 1 / "z" 1', "marked gr", ".",
                   "table l", '"a" "x" / "b" "1" / "a" "y" / "b" "2 3" / "a" "x y" / "b" "q""" / "a" "z" / "b" -')
@@ -181,12 +182,13 @@ class Refused(unittest.TestCase):
 
     def test_words_of_other_sorts(self):
         self.no_line("put S 0 a -", "put s a a -", "put s 0 A -", "put s 0 0 -", 'put s 0 "a" -', 'put "s" 0 a -',
-                     "put - 0 a -", "put s - a -", 'put s "0" a -', "put s 0 - -", "put s 0 a b", "put s 0 a 1", "put s 0 a 0",
-                     "put s 0 a -1", "put s 0 a :", "put abcdefghi 0 a -", "put s 0 abcdefghi -", "drop s -", "drop s x",
-                     'drop s "0"', "drop 0 0", "add s x -", "add s 1 2", "add S - -", 'add "s" - -', "text 0", 'text "s"',
-                     "text S", "table T", "table 0", 'table "t"', "table -", "marked T", "marked -", "fate s", "fate 0 s",
-                     "fate s x", "lot t", "lot 0 t", "lot t x", "lot t -", "made t", "undo 1", "order T", "order 1",
-                     "keep s", "log", "together", "text", "order", "answer rows t", "#", "-", ".", '"undo"')
+                     "put - 0 a -", "put s - a -", 'put s "0" a -', "put s 0 - -", "put s 0 a b", "put s 0 a 1",
+                     "put s 0 a 0", "put s 0 a -1", "put s 0 a :", "put abcdefghi 0 a -", "put s 0 abcdefghi -",
+                     "drop s -", "drop s x", 'drop s "0"', "drop 0 0", "add s x -", "add s 1 2", "add S - -",
+                     'add "s" - -', "text 0", 'text "s"', "text S", "table T", "table 0", 'table "t"', "table -",
+                     "marked T", "marked -", "fate s", "fate 0 s", "fate s x", "fate s -", 'fate s "0"', 'lot t "0"',
+                     "lot t", "lot 0 t", "lot t x", "lot t -", "made t", "undo 1", "order T", "order 1", "keep s",
+                     "log", "together", "text", "order", "answer rows t", "#", "-", ".", '"undo"')
 
     def test_numbers(self):
         for number in ["00", "01", "-0", "-01", "+1", "1234567890", "-1234567890", "0000000001", "1.0", "1e1", "0x1",
@@ -194,12 +196,13 @@ class Refused(unittest.TestCase):
             self.no_line(f"put s {number} a -", f"drop s {number}", f"fate s {number}", f"lot t {number}")
 
     def test_worths(self):
-        for worth in ['""', '" x"', '"x "', '" "', '"', '"x', 'x"', "x", "'x'", '"x"y', '"x""', '"""', '"x" ', '"x"-', "--",
-                      "None", '"x\ny"', '"\n"', "1", '"x"\n', '"x"  "y"']:
+        for worth in ['""', '" x"', '"x "', '" "', '"', '"x', 'x"', "x", "'x'", '"x"y', '"x""', '"""', '"x" ', '"x"-',
+                      "--", "None", '"x\ny"', '"\n"', "1", '"x"\n', '"x"  "y"']:
             self.no_line(f"put s 0 a {worth}", f"add s - {worth}", f"add s {worth} -", f"add x {worth}")
 
     def test_an_add_of_more_or_fewer_worths_than_columns(self):
-        self.no_line("add s", "add s -", "add s - - -", 'add s "x"', 'add s "x" "y" "z"', "add q", "add q -", "add p - - -")
+        self.no_line("add s", "add s -", "add s - - -", 'add s "x"', 'add s "x" "y" "z"', "add q", "add q -",
+                     "add p - - -")
         self.refused(NoSource, {"source": "x"}, "add x", "add x -", 'add x - - - "y"')
         self.refused(NoSource, {"source": "t"}, "add t - -")
 

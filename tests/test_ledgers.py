@@ -103,7 +103,8 @@ class Ledger(unittest.TestCase):
 
     def test_rows_of_a_table_of_which_others_are_made_have_no_end_there(self):
         tables = (OF, ("gr", ("group", "t", ("a",), (("n", "count", None),)), (("w", "within", "n", 1, 1),), ()))
-        self.fates(tables, "x,,\ny,,\nx,,\n", (("marked", "gr", ("w",)),), (("end", "gr"),), (("marked", "gr", ("w",)),))
+        self.fates(tables, "x,,\ny,,\nx,,\n",
+                   (("marked", "gr", ("w",)),), (("end", "gr"),), (("marked", "gr", ("w",)),))
 
     def test_marked_rows_come_to_no_row_and_are_not_lost(self):
         tables = (("t", ("of", "s"), (("g", "given", "b"),), ()), KEYS,

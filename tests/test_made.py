@@ -111,7 +111,8 @@ class Made(unittest.TestCase):
     def test_asked_again_until_an_answer_is_another_one(self):
         """A look asks for the keyed rows, then for the one found; of another key these are not asked any more."""
         told = self.bench("1,,\n", ("k", ("of", "q"), (), ()),
-                          ("t", ("of", "s"), (("l", "look", "a", "k", "d", "e", "x"),), ()), others="d=1;e=p\nd=2;e=r\n")
+                          ("t", ("of", "s"), (("l", "look", "a", "k", "d", "e", "x"),), ()),
+                          others="d=1;e=p\nd=2;e=r\n")
         told.rows_of("t")
         told.made()
         told.put("q", 0, "e", "pp")

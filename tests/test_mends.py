@@ -263,7 +263,8 @@ def drawn_offers(seed):
     offers = []
     for _ in range(seed % 7 if cells else 0):
         row, column = rng.choice(cells)
-        offers.append((row, column, rng.choice([None, "a", "p", "q", "q", "r", "1"]), rng.choice([1, 1, 2, 3, 50, 1000])))
+        worth, cost = rng.choice([None, "a", "p", "q", "q", "r", "1"]), rng.choice([1, 1, 2, 3, 50, 1000])
+        offers.append((row, column, worth, cost))
     return program, texts, rng.choice(program[1])[0], tuple(offers)
 
 

@@ -50,7 +50,8 @@ class Read(unittest.TestCase):
             ("t", ("of", "s"), (), ()), ("k", ("of", "q"), (), ()),
             ("j", ("join", "t", "k", (("a", "d"), ("b", "e"))), (), ())))
         self.read(SOURCE + TABLE + "table g group t a : n count - m most b", (S,), (
-            ("t", ("of", "s"), (), ()), ("g", ("group", "t", ("a",), (("n", "count", None), ("m", "most", "b"))), (), ())))
+            ("t", ("of", "s"), (), ()),
+            ("g", ("group", "t", ("a",), (("n", "count", None), ("m", "most", "b"))), (), ())))
         self.read(SOURCE + TABLE + "table g group t : n count -", (S,), (
             ("t", ("of", "s"), (), ()), ("g", ("group", "t", (), (("n", "count", None),)), (), ())))
         self.read(SOURCE + TABLE + 'table w wide t c b : a c "x y" xx """" yy', (S,), (
@@ -70,7 +71,8 @@ class Read(unittest.TestCase):
             ("read a amount 4 day", ("read", "a", ("amount", 4), "day")),
             ("read a day mdy n", ("read", "a", ("day", "mdy"), "n")),
             ('put a "7"', ("put", "a", "7")), ('put a "- :"', ("put", "a", "- :")), ("given a", ("given", "a")),
-            ('within a "a" "b c"', ("within", "a", "a", "b c")), ('among a "1" "2" "a"', ("among", "a", ("1", "2", "a"))),
+            ('within a "a" "b c"', ("within", "a", "a", "b c")),
+            ('among a "1" "2" "a"', ("among", "a", ("1", "2", "a"))),
             ("before a c", ("before", "a", "c")), ("unlike c a b", ("unlike", ("c", "a", "b"))),
             ("fill a", ("fill", "a", ())), ("fill a c b", ("fill", "a", ("c", "b"))),
             ("look a k d e n", ("look", "a", "k", "d", "e", "n")),
@@ -129,7 +131,8 @@ class NoTexts(unittest.TestCase):
                 'source s signs "ab" """" a\ntable t of s', 'source s signs "" """" a\ntable t of s',
                 'source s signs "." """" a\ntable t of s', 'source s signs "," "" a\ntable t of s',
                 'source s signs "," "," a\ntable t of s', 'source s signs "," """" a a\ntable t of s',
-                'source s named ":" a\ntable t of s', 'source s named ";"";" a\ntable t of s', 'source s named ","\ntable t of s',
+                'source s named ":" a\ntable t of s', 'source s named ";"";" a\ntable t of s',
+                'source s named ","\ntable t of s',
                 "source s places\ntable t of s", "source s places a 0\ntable t of s",
                 "source s places a 21\ntable t of s", "source s places a -1\ntable t of s",
                 "source s places a 999999999\ntable t of s", "source s places a 1 a 2\ntable t of s",
@@ -143,9 +146,9 @@ class NoTexts(unittest.TestCase):
                     "group t : n most -", "group t : n nothing a", "group t : n nothing -", "group t : n total a",
                     "group t : n count - n count -", "group t a b c d : n count -", "group x : n count -",
                     'wide t : a b', 'wide t : a a "x" xx', 'wide t : a b "x" xx "x" yy', 'wide t : a b "" xx',
-                    'wide t : a b " x" xx', 'wide t : a b "x" xx "y" xx', 'wide t a : b c "x" a',
-                    "long t : n v", "long t a a : n v", "long t a : n n", "long t a : b v", "long t a b x : n v",
-                    "of t", "of x", "of j"]:
+                    'wide t : a b " x" xx', 'wide t : a b "x" xx "y" xx', 'wide t a : b c "x" a', "long t : n v",
+                    "long t a a : n v", "long t a : n n", "long t a : b v", "long t a b x : n v", "of t", "of x",
+                    "of j"]:
             text = SOURCE + OTHER + TABLE + KEYS + "table j " + row
             if row == "join t k a d b":
                 self.no(4, text)
@@ -155,12 +158,13 @@ class NoTexts(unittest.TestCase):
     def test_no_program_of_right_steps(self):
         for row in ['cut a "," d', 'cut a ","', 'cut a "ab" d e', 'cut a "" d e', 'cut a "," d d', 'cut a "," b c',
                     'cut x "," d e', 'cut a "," d e f g h', 'glue : "," d', 'glue a : ",," d', 'glue a : "," b',
-                    'spell a "x" 7', 'spell a "" "x"', 'spell a "y" "x" "x" "y"', 'spell a "x " "y"', 'spell a "x" ""',
-                    "read a amount 0 n", "read a amount 5 n", "read a amount -1 n", "read a day dym n",
-                    "read a day n n", "read x whole n", "read a whole b", "put a -", "put a 7", 'put a ""', 'put a "x "',
-                    "within a - -", "within a 1 2", 'within a "b" "a"', 'within a "a" 2', "among a", "among a -",
-                    'among a "b" "a"', "among a 1", "before a a", "unlike", "unlike a a", "unlike a b c d", "fill a a",
-                    "fill a b b", "fill x", "look a k d e a", "look a x d e n", "look a t a b n", "given x"]:
+                    'spell a "x" 7', 'spell a "" "x"', 'spell a "y" "x" "x" "y"', 'spell a "x " "y"',
+                    'spell a "x" ""', "read a amount 0 n", "read a amount 5 n", "read a amount -1 n",
+                    "read a day dym n", "read a day n n", "read x whole n", "read a whole b", "put a -", "put a 7",
+                    'put a ""', 'put a "x "', "within a - -", "within a 1 2", 'within a "b" "a"', 'within a "a" 2',
+                    "among a", "among a -", 'among a "b" "a"', "among a 1", "before a a", "unlike", "unlike a a",
+                    "unlike a b c d", "fill a a", "fill a b b", "fill x", "look a k d e a", "look a x d e n",
+                    "look a t a b n", "given x"]:
             self.no(5, SOURCE + OTHER + KEYS + TABLE + "step x " + row)
         self.no(4, SOURCE + TABLE + "step x given a\nstep x given b")
 
@@ -171,15 +175,19 @@ class NoTexts(unittest.TestCase):
 
     def test_rows_of_no_form(self):
         rows = [
-            "source", "source s", "source s signs", 'source s signs ","', "source s signs , \" a", 'source s signs "," " a',
+            'source s signs "," 1 a', 'source s signs "," - a', 'source s signs "," a', "source s named 1 a",
+            "source s named - a", "source", "source s", "source s signs", 'source s signs ","',
+            "source s signs , \" a", 'source s signs "," " a',
             'source s signs "," """ a', 'source s signs "," """" A', 'source s signs "," """" a1',
             'source s signs "," """" abcdefghi', 'source s signs "," """" "a"', 'source s signs "," """" a -',
             'source s signs "," """" a 1', 'source s signs "," """" :', 'source S signs "," """" a',
-            'source "s" signs "," """" a', 'source s signs 1 """" a', 'source s signs - """" a', 'source s sign "," """" a',
+            'source "s" signs "," """" a', 'source s signs 1 """" a', 'source s signs - """" a',
+            'source s sign "," """" a',
             'source s Signs "," """" a', "source s places a", "source s places a 1 b", "source s places 1 a",
             "source s places a 01", "source s places a +1", "source s places a -0", "source s places a 1234567890",
             "source s places a -1234567890", "source s places a 00", 'source s places a "1"', "source s places a -",
-            "source s places a 1.0", "source s places a --1", "source s named", "source s named ; a", "source s named a",
+            "source s places a 1.0", "source s places a --1", "source s named", "source s named ; a",
+            "source s named a",
             'source s named ";" a  b', 'source s named ";" a ', ' source s named ";" a', 'source  s named ";" a',
             'source s named ";"a', 'source s named ";" a\t', 'Source s named ";" a', 'sources s named ";" a',
             'source s named "a" "b" ";"', 'source "s', "table", "comment", "#", "-", '"', '""']
@@ -188,44 +196,49 @@ class NoTexts(unittest.TestCase):
             self.no(1, SOURCE + row, SOURCE + row + "\n" + TABLE)
 
     def test_tables_of_no_form(self):
-        for row in ["table", "table j", "table j of", "table j of s s", 'table j of "s"', "table j of S", "table J of s",
-                    "table j join", "table j join t", "table j join t k a", "table j join t k a d b", 'table j join t k a "d"',
-                    "table j join t k : a d", "table j group", "table j group t", "table j group t a", "table j group :",
-                    "table j group t : n", "table j group t : n count", "table j group t : n count - m",
-                    "table j group t : - count n", "table j group t : n - n", "table j group t a : : n count -",
-                    "table j group t - : n count -", 'table j group t : n "count" -', "table j group t : n count 1",
-                    'table j group t ":" n count -', "table j wide", "table j wide t", "table j wide t :", "table j wide t : a",
-                    "table j wide t a b", 'table j wide t : a b "x"', "table j wide t : a b x xx", 'table j wide t : a b "x" "y"',
+        for row in ["table", "table j", "table j of", "table j of s s", 'table j of "s"', "table j of S",
+                    "table J of s", "table j join", "table j join t", "table j join t k a", "table j join t k a d b",
+                    'table j join t k a "d"', "table j join t k : a d", "table j group", "table j group t",
+                    "table j group t a", "table j group :", "table j group t : n", "table j group t : n count",
+                    "table j group t : n count - m", "table j group t : - count n", "table j group t : n - n",
+                    "table j group t a : : n count -", "table j group t - : n count -",
+                    'table j group t : n "count" -', "table j group t : n count 1", 'table j group t ":" n count -',
+                    "table j wide", "table j wide t", "table j wide t :", "table j wide t : a", "table j wide t a b",
+                    'table j wide t : a b "x"', "table j wide t : a b x xx", 'table j wide t : a b "x" "y"',
                     "table j wide t : a b - xx", "table j wide t : a b 1 xx", 'table j wide t : a b "x" xx "y"',
-                    "table j long", "table j long t", "table j long t a", "table j long t a :", "table j long t a : n",
-                    "table j long t a : n v w", 'table j long t a : "n" v', "table j long t a n v", "table j long : n v",
-                    "table j wider t", "table j of s ", "table j  of s", "tables j of s", "Table j of s"]:
+                    "table j long", "table j long t", "table j long t a", "table j long t a :",
+                    "table j long t a : n", "table j long t a : n v w", 'table j long t a : "n" v',
+                    "table j long t a n v", "table j long : n v", "table j wider t", "table j of s ", "table j  of s",
+                    "tables j of s", "Table j of s"]:
             self.no(4, SOURCE + OTHER + TABLE + KEYS + row, SOURCE + OTHER + TABLE + KEYS + row + "\n\n")
 
     def test_steps_of_no_form(self):
-        for row in ["", "cut", "cut a", "cut a b", "cut a , d e", 'cut "a" "," d e', 'cut a "," "d"', 'cut a "," d -',
+        for row in ["cut a 1 d e", "cut a - d e", "glue a : 1 d", "glue a : - d", 'spell a x "y"', 'spell a 1 "y"',
+                    "", "cut", "cut a", "cut a b", "cut a , d e", 'cut "a" "," d e', 'cut a "," "d"', 'cut a "," d -',
                     'cut a "," : d', "glue", "glue a", 'glue a "," d', "glue a :", 'glue a : ","', "glue a : d",
                     'glue a : "," d e', 'glue "a" : "," d', 'glue a ":" "," d', "spell", 'spell a "x"', "spell a x y",
-                    'spell a "x" y', 'spell a - "x"', "spell a 1 -", 'spell a "x" - "y"', 'spell "a"', "read", "read a",
-                    "read a whole", "read a whole 1", "read a whole n m", "read a amount n", "read a amount 2",
-                    "read a amount x n", "read a amount 02 n", 'read a amount "2" n', "read a amount - n", "read a day n",
-                    "read a day 1 n", 'read a day "ymd" n', "read a day ymd", "read a week ymd n", "read a Whole n",
-                    'read a "whole" n', "read whole n", 'read "a" whole n', "put", "put a", "put a b", 'put a "b" "c"',
-                    "put a 01", "put a +1", "put a 1234567890", 'put a "b', 'put a b"', 'put a "b"c', 'put a """', "put a '",
-                    "put - -", "given", "given a b", 'given "a"', "given -", "within a", "within a 1", "within a 1 2 3",
-                    "within a b c", "among", "among a b", "among 1", "before", "before a", "before a b c", "before a -",
-                    'unlike "a"', "unlike -", "unlike a : b", "fill", "fill -", "fill a -", 'fill a "b"', "look",
-                    "look a k d e", "look a k d e n m", 'look a k d "e" n', "look a k d e -", "keep a", "Given a", "giv en a",
+                    'spell a "x" y', 'spell a - "x"', "spell a 1 -", 'spell a "x" - "y"', 'spell "a"', "read",
+                    "read a", "read a whole", "read a whole 1", "read a whole n m", "read a amount n",
+                    "read a amount 2", "read a amount x n", "read a amount 02 n", 'read a amount "2" n',
+                    "read a amount - n", "read a day n", "read a day 1 n", 'read a day "ymd" n', "read a day ymd",
+                    "read a week ymd n", "read a Whole n", 'read a "whole" n', "read whole n", 'read "a" whole n',
+                    "put", "put a", "put a b", 'put a "b" "c"', "put a 01", "put a +1", "put a 1234567890",
+                    'put a "b', 'put a b"', 'put a "b"c', 'put a """', "put a '", "put - -", "given", "given a b",
+                    'given "a"', "given -", "within a", "within a 1", "within a 1 2 3", "within a b c", "among",
+                    "among a b", "among 1", "before", "before a", "before a b c", "before a -", 'unlike "a"',
+                    "unlike -", "unlike a : b", "fill", "fill -", "fill a -", 'fill a "b"', "look", "look a k d e",
+                    "look a k d e n m", 'look a k d "e" n', "look a k d e -", "keep a", "Given a", "giv en a",
                     "given a ", " given a", "given  a", "given\ta"]:
-            self.no(4, SOURCE + OTHER + KEYS + TABLE + "step x " + row, SOURCE + OTHER + KEYS + TABLE + "step x " + row + "\n-")
-        for row in ["step", "step x", "step X given a", "step - given a", 'step "x" given a', "step given a", "steps x given a",
-                    "step abcdefghi given a", "step x1 given a"]:
+            self.no(4, SOURCE + OTHER + KEYS + TABLE + "step x " + row,
+                    SOURCE + OTHER + KEYS + TABLE + "step x " + row + "\n-")
+        for row in ["step", "step x", "step X given a", "step - given a", 'step "x" given a', "step given a",
+                    "steps x given a", "step abcdefghi given a", "step x1 given a"]:
             self.no(2, SOURCE + TABLE + row)
 
     def test_thens_of_no_form(self):
         steps = SOURCE + TABLE + "step x given a\nstep y given b\n"
-        self.no(4, *[steps + row for row in ["then", "then x", "then x y z", 'then "x" y', "then x -", "then x 1", "Then x y",
-                                             "then x  y", "then x y ", " then x y", "then x Y"]])
+        self.no(4, *[steps + row for row in ["then", "then x", "then x y z", 'then "x" y', "then x -", "then x 1",
+                                             "Then x y", "then x  y", "then x y ", " then x y", "then x Y"]])
 
     def test_rows_that_stand_where_they_may_not(self):
         self.no(2, SOURCE + TABLE + OTHER, SOURCE + TABLE + OTHER + KEYS)

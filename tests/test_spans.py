@@ -213,7 +213,8 @@ class Alike(unittest.TestCase):
 
     def test_of_several_sources(self):
         tables = (OF, ("k", ("of", "q"), (), ()), ("j", ("join", "t", "k", (("b", "d"),)), (), ()))
-        other = (OF, ("k", ("of", "q"), (("u", "unlike", ("d",)),), ()), ("j", ("join", "t", "k", (("b", "d"),)), (), ()))
+        other = (OF, ("k", ("of", "q"), (("u", "unlike", ("d",)),), ()),
+                 ("j", ("join", "t", "k", (("b", "d"),)), (), ()))
         self.told(tables, other, ("alike", 28), tables=("j", "t"), spans=(SPAN, Q), sources=SOURCES[:2])
         spans = (SPAN, ("q", (("1", "2"),), 2))
         self.told(tables, other, ("parted", (("q", "d=1\nd=1\n"), ("s", "x,1\n"))), tables=("j",), spans=spans,
@@ -254,8 +255,8 @@ class Alike(unittest.TestCase):
     def test_the_size_that_is_promised(self):
         spans = (("s", (("x", "y", None), ("1", None)), 3),)
         self.assertEqual(spread(program(OF), spans), 259)
-        self.told(self.of(("f", "fill", "a", ())), self.of(("f", "fill", "a", ()), ("c", "spell", "b", ())), ("alike", 259),
-                  spans=spans)
+        self.told(self.of(("f", "fill", "a", ())), self.of(("f", "fill", "a", ()), ("c", "spell", "b", ())),
+                  ("alike", 259), spans=spans)
 
 
 def by_hand(one, other, tables, spans):

@@ -244,7 +244,8 @@ class EachMend(unittest.TestCase):
                     self.assertGreater(len(left_marks(program, put_offers(program, texts, offers, choice), above)), 0)
             else:
                 for choice in all_choices(offers):
-                    self.assertTrue(set(told[1]) & left_marks(program, put_offers(program, texts, offers, choice), above))
+                    left = left_marks(program, put_offers(program, texts, offers, choice), above)
+                    self.assertTrue(set(told[1]) & left)
         self.assertEqual(words, {"mended", "stuck"})
 
 
